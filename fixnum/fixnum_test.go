@@ -391,7 +391,7 @@ func TestShare(t *testing.T) {
 		{0, []int{3, 0, 4}, []int{0, 0, 0}},
 		{2, []int{0, 1, 0, 1, 1}, []int{0, 1, 0, 1, 0}},
 		// The first one gets what is left though its own part is whole.
-		{5, []int{2, 1, 1}, []int{3, 1, 1}},
+		{6, []int{2, 1, 1}, []int{4, 1, 1}},
 		{math.MaxInt, []int{math.MaxInt}, []int{math.MaxInt}},
 		{math.MaxInt, []int{0, math.MaxInt - 1, 1}, []int{0, math.MaxInt - 1, 1}},
 		{math.MaxInt, []int{1 << 62, 1<<62 - 1}, []int{1 << 62, 1<<62 - 1}},
