@@ -376,11 +376,11 @@ func TestTooManyGroups(t *testing.T) {
 	}
 }
 
-// P9.3: texts up to most, which is itself allowed, and of any length where most is below 0.
+// P9.3: texts up to most, which is itself allowed.
 func TestReadText(t *testing.T) {
 	for _, n := range []int{0, 1, 2, 127, 128, 129, 4096, 16384} {
 		s := sample(n)
-		for _, most := range []int{n, n + 1, math.MaxInt, -1, -2, math.MinInt} {
+		for _, most := range []int{n, n + 1, math.MaxInt} {
 			for _, rest := range []string{"", "x", "\xff\xff"} {
 				r := behind(count(n) + s + rest)
 				if got := r.Text(most); got != s {
@@ -407,25 +407,39 @@ func TestTextLimit(t *testing.T) {
 			wantFault(t, "a great length", s+"abc", func(r *wire.Reader) string { return r.Text(most) }, noText, api.ErrLimit)
 		}
 	}
-	wantFault(t, "2^63", "\x81"+strings.Repeat("\x80", 8)+"\x00abc", func(r *wire.Reader) string { return r.Text(math.MaxInt) }, noText, api.ErrLimit)
+	for _, n := range []uint64{1 << 63, 1<<63 + 3, math.MaxUint64 - 2, math.MaxUint64} {
+		s := uintForm(new(big.Int).SetUint64(n))
+		wantFault(t, "more than an int", s+"abc", func(r *wire.Reader) string { return r.Text(math.MaxInt) }, noText, api.ErrLimit)
+	}
+}
+
+// P9.3: each length is above a most below 0, that of an empty text, too, and whichever bytes are there.
+func TestTextMostBelowZero(t *testing.T) {
+	for _, n := range []uint64{0, 1, 2, 39, 127, 128, 4096, 1 << 31, 1<<63 - 1, 1 << 63, math.MaxUint64 - 1, math.MaxUint64} {
+		s := uintForm(new(big.Int).SetUint64(n))
+		have := int(min(n, 5000))
+		for _, bytes := range []string{"", "a", sample(have / 2), sample(have), sample(have + 3)} {
+			for _, most := range []int{-1, -2, -have - 1, math.MinInt + 1, math.MinInt} {
+				wantFault(t, "Text with a most below 0", s+bytes, func(r *wire.Reader) string { return r.Text(most) }, noText, api.ErrLimit)
+			}
+		}
+	}
 }
 
 // P9.3: a text with fewer bytes than it says: the reader stays at the length.
 func TestTextShort(t *testing.T) {
 	for _, n := range []int{1, 2, 5, 128, 4096, 16384} {
 		for _, have := range []int{0, n / 2, n - 1} {
-			for _, most := range []int{n, n + 1, math.MaxInt, -1, math.MinInt} {
+			for _, most := range []int{n, n + 1, math.MaxInt} {
 				wantFault(t, "Text, too short", count(n)+sample(have), func(r *wire.Reader) string { return r.Text(most) }, noText, api.ErrShort)
 			}
 		}
 	}
-	for _, n := range []uint64{1 << 31, 1 << 32, 1<<63 - 1, 1 << 63, 1<<63 + 3, math.MaxUint64 - 2, math.MaxUint64} {
-		s := uintForm(new(big.Int).SetUint64(n))
-		for _, most := range []int{-1, math.MinInt} {
-			wantFault(t, "a great length", s+"abcdef", func(r *wire.Reader) string { return r.Text(most) }, noText, api.ErrShort)
+	for _, n := range []int{1 << 31, 1 << 32, math.MaxInt - 2, math.MaxInt} {
+		for _, most := range []int{n, math.MaxInt} {
+			wantFault(t, "a great length", count(n)+"abcdef", func(r *wire.Reader) string { return r.Text(most) }, noText, api.ErrShort)
 		}
 	}
-	wantFault(t, "2^63-1", "\xff"+strings.Repeat("\xff", 7)+"\x7fabc", func(r *wire.Reader) string { return r.Text(math.MaxInt) }, noText, api.ErrShort)
 }
 
 // P9.3: each byte as a truth.
@@ -663,7 +677,7 @@ func someThing(c *rand.Rand) thing {
 		return thing{func(w *wire.Writer) { w.Int(n) }, func(r *wire.Reader) bool { return r.Int() == n }}
 	case 2:
 		s := sample(c.Intn(300))
-		most := []int{len(s), len(s) + 1, -1}[c.Intn(3)]
+		most := []int{len(s), len(s) + 1, math.MaxInt}[c.Intn(3)]
 		return thing{func(w *wire.Writer) { w.Text(s) }, func(r *wire.Reader) bool { return r.Text(most) == s }}
 	case 3:
 		ok := c.Intn(2) == 0
@@ -747,7 +761,7 @@ func oneForm(t *testing.T, s string) {
 	for what, again := range map[string]func(r *wire.Reader){
 		"Uint":  func(r *wire.Reader) { w.Uint(r.Uint()) },
 		"Int":   func(r *wire.Reader) { w.Int(r.Int()) },
-		"Text":  func(r *wire.Reader) { w.Text(r.Text(-1)) },
+		"Text":  func(r *wire.Reader) { w.Text(r.Text(math.MaxInt)) },
 		"Bool":  func(r *wire.Reader) { w.Bool(r.Bool()) },
 		"Count": func(r *wire.Reader) { w.Uint(uint64(r.Count(math.MaxInt))) },
 		"Ints":  func(r *wire.Reader) { w.Ints(r.Ints(math.MaxInt)) },
@@ -889,7 +903,7 @@ func TestAnswersApart(t *testing.T) {
 	}
 	bytes := a + a + a
 	r := wire.NewReader(bytes)
-	one, two := r.Text(8), r.Text(-1)
+	one, two := r.Text(8), r.Text(9)
 	if !apart(one, bytes) || !apart(two, bytes) || !apart(one, two) {
 		t.Error("an answer of Text shares memory")
 	}
